@@ -160,3 +160,27 @@ func TestSplitOfAll(t *testing.T) {
 		}
 	}
 }
+
+// 1.6: weights that are long together: shares that are cut off, and such as come out even.
+func TestSplitLong(t *testing.T) {
+	var l []frac.Frac
+	var rats []*big.Rat
+	for i := range 400 {
+		l = append(l, of(t, 1+i%5, 1+i))
+		rats = append(rats, rat(t, l[i]))
+	}
+	for _, units := range []int{0, 1, 399, 12345, api.MaxUnits} {
+		shares, err := frac.Split(units, l)
+		if err != nil || !slices.Equal(shares, parted(units, rats)) {
+			t.Errorf("%d by long weights: %v, %v", units, shares, err)
+		}
+	}
+	long, _ := of(t, leastInt, 3).Pow(100)
+	even := []frac.Frac{long, {}, long.Mul(frac.Whole(3)), long}
+	for units, asked := range map[int][]int{10: {2, 0, 6, 2}, 11: {2, 0, 7, 2}, 12: {3, 0, 7, 2}, 14: {3, 0, 8, 3}} {
+		shares, err := frac.Split(units, even)
+		if err != nil || !slices.Equal(shares, asked) {
+			t.Errorf("%d by long weights: %v, %v, not %v", units, shares, err, asked)
+		}
+	}
+}

@@ -58,7 +58,7 @@ func divideParts(x, y Nat) (Nat, Nat) {
 	out := make([]uint64, len(x))
 	var quo, rem Nat
 	for i := (len(x) - 1) / n * n; i >= 0; i -= n {
-		quo, rem = divide(rem.above(n, x.high(i).low(n)), y)
+		quo, rem = divide(rem.above(n, x.High(i).low(n)), y)
 		copy(out[i:], quo)
 	}
 	return trimmed(out), rem
@@ -66,14 +66,14 @@ func divideParts(x, y Nat) (Nat, Nat) {
 
 // divideHalves finds a quotient in two halves, the lower one n words long, each by the higher words of y alone, and then mends it by the lower ones.
 func divideHalves(x, y Nat, n int) (Nat, Nat) {
-	high, rest := divideMended(x.high(n), y, n)
+	high, rest := divideMended(x.High(n), y, n)
 	low, rem := divideMended(rest.above(n, x.low(n)), y, n)
 	return high.above(n, nil).Add(low), rem
 }
 
 // divideMended divides x by y without their lowest n words, and then mends the quotient, which can only be too great, and what is left.
 func divideMended(x, y Nat, n int) (Nat, Nat) {
-	quo, rest := divide(x.high(n), y.high(n))
+	quo, rest := divide(x.High(n), y.High(n))
 	rem := rest.above(n, x.low(n))
 	taken := quo.Mul(y.low(n))
 	for rem.Cmp(taken) < 0 {

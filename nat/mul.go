@@ -54,14 +54,14 @@ func timesPlus(x, y, carry uint64) (uint64, uint64) {
 func mulHalves(x, y Nat, half int) Nat {
 	out := make([]uint64, len(x)+len(y))
 	copy(out, x.low(half).Mul(y))
-	addTo(out[half:], x.high(half).Mul(y))
+	addTo(out[half:], x.High(half).Mul(y))
 	return trimmed(out)
 }
 
 // karatsuba takes three products of halves in the place of four.
 func karatsuba(x, y Nat, half int) Nat {
-	x0, x1 := x.low(half), x.high(half)
-	y0, y1 := y.low(half), y.high(half)
+	x0, x1 := x.low(half), x.High(half)
+	y0, y1 := y.low(half), y.High(half)
 	low, high := x0.Mul(y0), x1.Mul(y1)
 	cross := x0.Add(x1).Mul(y0.Add(y1)).Sub(low).Sub(high)
 	out := make([]uint64, len(x)+len(y))

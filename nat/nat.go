@@ -119,8 +119,8 @@ func (x Nat) low(n int) Nat {
 	return trimmed(x[:n])
 }
 
-// high is the number of the words above the lowest n.
-func (x Nat) high(n int) Nat {
+// High is the number of the words above the lowest n.
+func (x Nat) High(n int) Nat {
 	if len(x) <= n {
 		return nil
 	}
