@@ -1,13 +1,11 @@
 package chain
 
 import (
-	"strings"
-
-	"tontine/api"
 	"tontine/frac"
+	"tontine/whole"
 )
 
-// row tells how likely each state is: whole numbers over one lower number. (Fractions of their own would be lowered at each step, which takes far longer once they have grown.)
+// row tells how likely each state is: whole numbers over one lower number.
 type row struct {
 	over  []frac.Frac
 	under frac.Frac
@@ -21,47 +19,17 @@ type year struct {
 
 // rowOf is a row of chances.
 func rowOf(chances []frac.Frac) row {
-	y := yearOf(Matrix{chances})
-	return row{y.over[0], y.under}
+	under := whole.Common(chances)
+	return row{whole.Times(chances, under), under}
 }
 
 // yearOf is a year of a matrix.
 func yearOf(m Matrix) year {
-	y := year{make(Matrix, len(m)), common(m)}
+	y := year{make(Matrix, len(m)), whole.Common(m...)}
 	for i := range len(m) {
-		for _, chance := range m[i] {
-			y.over[i] = append(y.over[i], chance.Mul(y.under))
-		}
+		y.over[i] = whole.Times(m[i], y.under)
 	}
 	return y
-}
-
-// common is the least number by which all chances of a matrix become whole.
-func common(m Matrix) frac.Frac {
-	under := frac.Whole(1)
-	for _, chances := range m {
-		for _, chance := range chances {
-			under = under.Mul(lower(chance.Mul(under)))
-		}
-	}
-	return under
-}
-
-// lower is the lower number of a fraction, which is shown nowhere but in its text.
-func lower(f frac.Frac) frac.Frac {
-	if f.Cmp(f.Floor()) == 0 {
-		return frac.Whole(1)
-	}
-	_, digits, _ := strings.Cut(f.Text(), "/")
-	var number frac.Frac
-	for len(digits) > 0 { // piece by piece, since Parse reads no more than MaxDigits at once
-		n := min(len(digits), api.MaxDigits)
-		piece, _ := frac.Parse(digits[:n])
-		power, _ := frac.Whole(10).Pow(n)
-		number = number.Mul(power).Add(piece)
-		digits = digits[n:]
-	}
-	return number
 }
 
 // behind is how likely each state is behind a year.

@@ -1,7 +1,6 @@
 package chain
 
 import (
-	"strings"
 	"testing"
 
 	"tontine/frac"
@@ -14,23 +13,6 @@ func fracOf(t *testing.T, text string) frac.Frac {
 		t.Fatal(err)
 	}
 	return f
-}
-
-// The lower number is found, however long it is; all results would be right without it, but rows would have to be lowered again and again.
-func TestLower(t *testing.T) {
-	for _, c := range []struct{ f, under string }{{"0", "1"}, {"7", "1"}, {"3/4", "4"}, {"6/8", "4"}, {"1/18446744073709551617", "18446744073709551617"}} {
-		if got := lower(fracOf(t, c.f)); got.Text() != c.under {
-			t.Errorf("%s: %s", c.f, got.Text())
-		}
-	}
-	for _, digits := range []int{59, 60, 61, 119, 120, 121, 150} {
-		power, _ := frac.Whole(10).Pow(digits - 1)
-		under := power.Add(frac.Whole(1))
-		f, _ := frac.Whole(10).Div(under)
-		if got := lower(f); got.Cmp(under) != 0 || !strings.HasSuffix(f.Text(), "/"+got.Text()) {
-			t.Errorf("%d digits: %s", digits, got.Text())
-		}
-	}
 }
 
 // A year has the least common lower number, and whole numbers above it.

@@ -13,6 +13,9 @@ func (x Nat) Mul(y Nat) Nat {
 	if len(y) == 0 {
 		return nil
 	}
+	if y.One() {
+		return x
+	}
 	if len(y) <= schoolMost {
 		return mulWords(x, y)
 	}
