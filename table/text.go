@@ -5,6 +5,7 @@ import (
 
 	"tontine/api"
 	"tontine/frac"
+	"tontine/lines"
 )
 
 // Words of a table's text.
@@ -45,7 +46,7 @@ func Read(text string) (*Table, error) {
 	if place, ok := headed(words, len(text)); !ok {
 		return nil, &api.At{Err: api.ErrForm, Place: place}
 	}
-	from, ok := number(words[ageAt].text)
+	from, ok := lines.Number(words[ageAt].text)
 	if !ok {
 		return nil, &api.At{Err: api.ErrForm, Place: words[ageAt].place}
 	}
@@ -102,12 +103,6 @@ func head(i int, text string) bool {
 		return text == ratesWord || text == livesWord
 	}
 	return true
-}
-
-// number is a whole number, if a text writes one as the program would.
-func number(text string) (int, bool) {
-	n, err := strconv.Atoi(text)
-	return n, err == nil && strconv.Itoa(n) == text
 }
 
 // fractions reads each word as a fraction.

@@ -1,12 +1,12 @@
 package treaty
 
 import (
-	"iter"
 	"strconv"
 	"strings"
 
 	"tontine/api"
 	"tontine/frac"
+	"tontine/lines"
 )
 
 // form is how lines of a kind are written. An excess that is had again has a form of its own.
@@ -95,7 +95,7 @@ func Parse(text string) ([]Line, error) {
 		return nil, api.ErrLimit
 	}
 	var l []Line
-	for place, line := range lines(text) {
+	for place, line := range lines.Of(text) {
 		words := cut(line)
 		if len(words) == 0 {
 			continue
@@ -110,21 +110,6 @@ func Parse(text string) ([]Line, error) {
 		return nil, err
 	}
 	return l, nil
-}
-
-// lines goes through a text's lines, each with the place at which it begins.
-func lines(text string) iter.Seq2[int, string] {
-	return func(yield func(int, string) bool) {
-		place, rest := 0, text
-		for more := true; more; {
-			var line string
-			line, rest, more = strings.Cut(rest, "\n")
-			if !yield(place, line) {
-				return
-			}
-			place += len(line) + 1
-		}
-	}
 }
 
 // cut cuts a line into its words, by blanks.
@@ -197,8 +182,8 @@ func (x *Line) hearTimes(word string) error {
 
 // number puts a whole number there, if a word writes one as the program would.
 func number(word string, there *int) error {
-	n, err := strconv.Atoi(word)
-	if err != nil || strconv.Itoa(n) != word {
+	n, ok := lines.Number(word)
+	if !ok {
 		return api.ErrForm
 	}
 	*there = n
